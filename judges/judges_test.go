@@ -134,6 +134,25 @@ func TestP38_1(t *testing.T) {
 	same(t, judges.Tables(w), at(judges.JdPlace, rigs.Spot(2, 1, 0), 1), at(judges.JdPlace, rigs.Spot(2, 2, 0), 3), at(judges.JdTwice, rigs.Spot(2, 3, 0), 2))
 }
 
+// What has a tag alone, an item alone, or a number of no record, has no item.
+func TestP38_1Has(t *testing.T) {
+	key := rigs.Key(rigs.Homed(2, 1, 2))
+	tag := fnvs.Tag(fnvs.Hash(key))
+	m := machine(t, plain, 1)
+	w := m.World()
+	rigs.Seat(w, rigs.Spot(2, 1, 0), key)
+	rigs.Set(w, rigs.Spot(2, 1, 0), 0, 1)
+	rigs.Set(w, rigs.Spot(2, 1, 1), tag, 0)
+	rigs.Set(w, rigs.Spot(2, 1, 2), tag, 9)
+	rigs.Set(w, rigs.Spot(2, 1, 3), tag, 1)
+	same(t, judges.Tables(w), at(judges.JdHalf, rigs.Spot(2, 1, 0), 1), at(judges.JdHalf, rigs.Spot(2, 1, 1), 0), at(judges.JdItem, rigs.Spot(2, 1, 2), 9))
+	same(t, judges.Rest(m), at(judges.JdMap, rigs.Spot(2, 1, 3), 1), judges.Finding{Kind: judges.JdMap})
+	rigs.Set(w, rigs.Spot(2, 2, 0), 0, 1)
+	rigs.Set(w, rigs.Spot(2, 2, 1), tag, 1)
+	w.Cells.Store(places.Version(api.Place{Bits: 2, Bucket: 2}), 1)
+	same(t, judges.Tables(w)[3:], at(judges.JdTwice, rigs.Spot(2, 2, 1), 1))
+}
+
 // stored: a machine with two keys.
 func stored(t *testing.T) *machines.Machine {
 	m := machine(t, plain, 1)

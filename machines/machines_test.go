@@ -91,6 +91,9 @@ func TestP35_2(t *testing.T) {
 	if d := m.Do(scripts.Cmd{Kind: scripts.CmTick, Conn: 7}); d != (machines.Did{Conn: -1, Steps: 1}) || m.World().Cells.Peek(api.CellEpoch) != 1 {
 		t.Error(d)
 	}
+	if d := m.Do(scripts.Cmd{Kind: scripts.CmTick}); d != (machines.Did{Conn: -1, Steps: 1}) || m.World().Steps() != 2 {
+		t.Error(d)
+	}
 	if d := m.Do(feed(1<<40+1, "")); d.Conn != (1<<40+1)%3 {
 		t.Error(d)
 	}
@@ -107,7 +110,7 @@ func TestP35_2(t *testing.T) {
 	copy(b, "xxxx")
 	m.Do(feed(2, "k\n"))
 	m.Do(pick(2))
-	if !m.Under(2) || m.World().Steps() != 2 {
+	if !m.Under(2) || m.World().Steps() != 3 {
 		t.Error("a call under way")
 	}
 	// two calls of one thread: From of the later one is what it was when it began
@@ -133,7 +136,7 @@ func TestP35_2(t *testing.T) {
 	if want := []api.AnKind{api.AnMiss, api.AnMiss, api.AnMiss, api.AnOk, api.AnStored, api.AnNumber, api.AnTouched, api.AnNotFound}; !reflect.DeepEqual(kinds, want) {
 		t.Error(kinds)
 	}
-	if h.Calls[0].From != 1 || h.Calls[1].From != h.Calls[0].To+1 || h.Calls[1].Call.Verb != api.VbGets || h.Calls[3].Call.Exp != 2 {
+	if h.Calls[0].From != 2 || h.Calls[1].From != h.Calls[0].To+1 || h.Calls[1].Call.Verb != api.VbGets || h.Calls[3].Call.Exp != 2 {
 		t.Error(h.Calls)
 	}
 	if out := m.Conn(2).Out(); out != "END\r\nEND\r\nOK\r\nSTORED\r\n9\r\nTOUCHED\r\nNOT_FOUND\r\n" {

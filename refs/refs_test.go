@@ -57,6 +57,9 @@ func TestP22_2And3(t *testing.T) {
 	if !x.Step(w) || x.Done() || w.Cells.Peek(places.Ref(3)) != 4 || rigs.Tell(w.Cells.Last()) != "cas r3 4 4" {
 		t.Error("done, though it does not stand")
 	}
+	if d := rigs.Differ(rigs.Run(w, refs.NewTouch(1), 9), "load r1 0", "load sweep 0", "cas r1 0 1"); d != "" {
+		t.Error(d)
+	}
 	var none *refs.Touch
 	for i, x := range []*refs.Touch{none, {}, refs.NewTouch(0), refs.NewTouch(-1), refs.NewTouch(-1 << 63)} {
 		if !rigs.Idle(w, x) || x.Done() {

@@ -125,9 +125,9 @@ func TestP39_4(t *testing.T) {
 			t.Error(row)
 		}
 	}
-	kinds := []string{"none", "stored 18446744073709551615", "not_stored", "exists", "not_found", "no_room", "deleted", "touched", "number 18446744073709551615", "not_number", "ok", "hit 9", "miss", "?", "?"}
+	kinds := []string{"none", "stored 18446744073709551615", "not_stored", "exists", "not_found", "no_room", "deleted", "touched", "number 18446744073709551615", "not_number", "ok", "hit 9000", "miss", "?", "?"}
 	for k, word := range kinds {
-		x := hists.Called{Call: api.Call{Verb: 255}, Answer: api.Answer{Kind: api.AnKind(k), Number: 1<<64 - 1, Item: api.Item{Id: 9}}}
+		x := hists.Called{Call: api.Call{Verb: 255}, Answer: api.Answer{Kind: api.AnKind(k), Number: 1<<64 - 1, Item: api.Item{Id: 9000}}}
 		if row := runs.Row(x); row != "0 ? - 0 0 0 "+word {
 			t.Error(row)
 		}
