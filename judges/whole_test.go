@@ -25,25 +25,24 @@ func (r *rule) next() uint64 {
 }
 
 // drive a machine by a rule, with an eye on each command; what each connection was fed.
-func drive(m *machines.Machine, r *rule, commands int, line func(x uint64) string, eye func()) []string {
+func drive(m *machines.Machine, r *rule, commands int, line func(x uint64) string, eye func(d machines.Did)) []string {
 	fed := make([]string, m.Conns())
 	for range commands {
 		x := r.next()
 		i := int(x >> 33 % uint64(m.Conns()))
+		command := pick(i)
 		switch {
 		case x>>58 == 0:
-			m.Do(scripts.Cmd{Kind: scripts.CmTick})
+			command = scripts.Cmd{Kind: scripts.CmTick}
 		case x>>58 < 5:
 			text := line(r.next())
 			fed[i] += text
-			m.Do(feed(i, text))
-		default:
-			m.Do(pick(i))
+			command = feed(i, text)
 		}
-		eye()
+		eye(m.Do(command))
 	}
 	through(m)
-	eye()
+	eye(machines.Did{Conn: -1})
 	return fed
 }
 
@@ -65,7 +64,7 @@ func TestP0_1(t *testing.T) {
 		m := machine(t, configs(seed), 2+int(seed%5))
 		r := rule(seed)
 		rests := 0
-		drive(m, &r, 1500, line, func() {
+		drive(m, &r, 1500, line, func(machines.Did) {
 			rests++
 			if m.World().Holder != -1 || rests%20 > 0 {
 				return
@@ -120,7 +119,7 @@ func TestP0_2(t *testing.T) {
 		c := worlds.Config{Bits: 1, Budget: 40 + int(seed), Tries: int(seed % 4), Quantum: 1 + int(seed%8), Way: 4 + int(seed%40)}
 		m := machine(t, c, 1+int(seed%4))
 		r := rule(seed + 500)
-		drive(m, &r, 6000, line, func() {})
+		drive(m, &r, 6000, line, func(machines.Did) {})
 		w := m.World()
 		if !exactly(w) {
 			continue
@@ -164,7 +163,7 @@ func TestP0_3(t *testing.T) {
 	for seed := range uint64(40) {
 		m := machine(t, configs(seed), 1+int(seed%4))
 		r := rule(seed + 900)
-		fed := drive(m, &r, 1500, wires, func() {})
+		fed := drive(m, &r, 1500, wires, func(machines.Did) {})
 		h := m.Hist()
 		own := maps.New()
 		answers := make([][]api.Answer, m.Conns())
@@ -213,10 +212,10 @@ func TestP0_4(t *testing.T) {
 		most := max(8*max(c.Budget, 4<<c.Bits), 4<<c.Bits)
 		marks := map[int]uint64{} // by threads: the mark that was loaded last
 		seen := 0
-		drive(m, &r, 2500, line, func() {
+		drive(m, &r, 2500, line, func(d machines.Did) {
 			last := w.Cells.Last()
-			if last.Kind == api.AcLoad && last.Addr > api.CellRef && w.Holder >= 0 {
-				marks[w.Holder] = last.Was
+			if d.Steps == 1 && last.Kind == api.AcLoad && last.Addr > api.CellRef {
+				marks[d.Conn] = last.Was
 			}
 			t0 := w.Cells.Peek(api.CellTable)
 			have := 0
