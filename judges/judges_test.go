@@ -6,6 +6,7 @@ import (
 	"testing"
 
 	"nestbox/api"
+	"nestbox/cells"
 	"nestbox/fnvs"
 	"nestbox/judges"
 	"nestbox/machines"
@@ -123,6 +124,27 @@ func TestP38_1(t *testing.T) {
 		}
 		if n := w.Steps(); len(judges.Tables(w)) >= 0 && w.Steps() != n {
 			t.Error("a look is an access")
+		}
+	}
+	// of each address, in one table and in two
+	for _, word := range []uint64{1, 2, 0x0302, 12, 0x0c0b} {
+		w := worlds.World{Cells: cells.New(cells.Word{Addr: api.CellTable, Value: word})}
+		owned := map[api.Addr]int{}
+		for n := range places.Spots(word) {
+			s := places.At(word, n)
+			owned[places.Tags(s.Place)]++
+			owned[places.Item(s)]++
+		}
+		var want []judges.Finding
+		for a := api.Addr(4096); a < 4096+8*8192+50; a += 1 + a%3*api.Addr(word>>3) {
+			w.Cells.Store(a, 1<<40)
+			if owned[a] == 0 {
+				want = append(want, judges.Finding{Kind: judges.JdWord, Value: int(a)})
+			}
+		}
+		found := slices.DeleteFunc(judges.Tables(&w), func(f judges.Finding) bool { return f.Kind != judges.JdWord })
+		if !slices.Equal(found, want) {
+			t.Errorf("%x: %d words, not %d", word, len(found), len(want))
 		}
 	}
 	// the first one of a spot alone, and of a spot ahead of it what it has counts, whatever is found there
